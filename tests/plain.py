@@ -4,6 +4,7 @@ import random
 
 NAMES = ("tea", "cup", "pot")
 DAYS = 12
+LAST = 1000000
 
 
 def counts(book, n, number):
@@ -67,6 +68,38 @@ def became(book, one, other, name, low, high):
 
     found = stretches(low, high, pair)
     return [(first, last, *both) for first, last, both in found if both[0] != both[1]]
+
+
+def edges(book):
+    """Each first day of an entry, each day behind a last one, and the bounds: on all other days nothing begins."""
+    days = {0, LAST}
+    for entry in book.values():
+        if entry[0] != "undo":
+            days.update((entry[2], min(LAST, entry[3] + 1)))
+    return sorted(days)
+
+
+def names_of(book):
+    return sorted({part for entry in book.values() for part in entry[1:] if isinstance(part, str)})
+
+
+def all_known(book, n, names, days):
+    """What each of the names has on each of the days behind n, for books whose length makes worth() too slow."""
+    counted = [book[k] for k in sorted(book, reverse=True) if counts(book, n, k) and book[k][0] != "undo"]
+
+    def told(name, day, ahead):
+        for at, entry in enumerate(ahead):
+            if entry[1] == name and entry[2] <= day <= entry[3]:
+                if entry[0] == "like":
+                    return told(entry[4], day, ahead[at + 1:])
+                return entry[4] if entry[0] == "tell" else None
+        return None
+
+    return {(name, day): told(name, day, counted) for name in names for day in days}
+
+
+def without(book, number):
+    return {k: entry for k, entry in book.items() if k != number}
 
 
 def some_entry(chance, number):

@@ -17,6 +17,19 @@ LISTED = {
         "came_about": ["book", "name", "day"],
         "became_of": ["book", "one", "other", "name", "low", "high"],
     },
+    "saidthen.grounds": {"hangs_on": ["book", "n", "name", "low", "high"]},
+    "saidthen.shorter": {"shortened": ["book"]},
+    "saidthen.notes": {"shown": ["entry"], "written": ["book"], "read": ["text"]},
+}
+METHODS = {
+    "add": ["entry"],
+    "shorten": [],
+    "worth": ["n", "name", "day"],
+    "runs": ["n", "name", "low", "high"],
+    "why": ["n", "name", "low", "high"],
+    "last": [],
+    "floor": [],
+    "book": [],
 }
 ERRORS = ("BookError", "BadEntry", "BadBook", "NoEntry", "Closed", "TooMany", "Gone", "BadText")
 
@@ -34,6 +47,14 @@ class Interface(unittest.TestCase):
         module = importlib.import_module("saidthen.errors")
         for name in ERRORS:
             self.assertEqual(getattr(module, name).__module__, "saidthen.errors")
+
+    def test_the_keeper_has_its_methods_in_its_own_class(self):
+        module = importlib.import_module("saidthen.keeper")
+        self.assertEqual(module.Keeper.__module__, "saidthen.keeper")
+        self.assertEqual(list(inspect.signature(module.Keeper).parameters), [])
+        for name, arguments in METHODS.items():
+            method = vars(module.Keeper)[name]
+            self.assertEqual(list(inspect.signature(method).parameters)[1:], arguments, name)
 
 
 if __name__ == "__main__":
