@@ -8,13 +8,14 @@ LAST_DAY = 1000000
 GREATEST_WORTH = 1000000000
 
 # What is handed in may be anything, also an object that answers falsely or with an error when it is
-# compared or measured. So the kind of a thing is always asked before anything else about it.
+# compared or measured. So the kind of a thing is always asked before anything else about it. It is asked
+# by "is" alone: what "==" tells of a kind is up to this kind, what isinstance tells is up to the thing.
 
 
 def is_whole(thing):
     """Whether it is a whole number."""
     # isinstance would also take True and False.
-    return type(thing) == int
+    return type(thing) is int
 
 
 def is_number(thing):
@@ -24,7 +25,7 @@ def is_number(thing):
 
 def is_name(thing):
     """Whether it is a name."""
-    if type(thing) != str or not 1 <= len(thing) <= LONGEST_NAME:
+    if type(thing) is not str or not 1 <= len(thing) <= LONGEST_NAME:
         return False
     return all(["a" <= sign <= "z" for sign in thing])
 
@@ -78,10 +79,10 @@ FORMS = {"tell": is_tell, "clear": is_clear, "like": is_like, "undo": is_undo}
 
 def is_entry(thing):
     """Whether it is an entry."""
-    if type(thing) != tuple or len(thing) == 0:
+    if type(thing) is not tuple or len(thing) == 0:
         return False
     word = thing[0]
-    if type(word) != str or word not in FORMS:
+    if type(word) is not str or word not in FORMS:
         return False
     fits = FORMS[word]
     return fits(thing)
@@ -103,7 +104,7 @@ def may_stand(number, entry):
 
 def is_book(thing):
     """Whether it is a book."""
-    if type(thing) != dict or len(thing) > MOST:
+    if type(thing) is not dict or len(thing) > MOST:
         return False
     return all([may_stand(number, entry) for number, entry in thing.items()])
 

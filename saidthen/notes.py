@@ -34,7 +34,7 @@ def taken_apart(text):
 
 def read(text):
     """The book that is written as this text; BadText of what no book is written as."""
-    if type(text) != str:
+    if type(text) is not str:
         raise BadText("this is no text")
     if text == "":
         return {}
